@@ -1,0 +1,25 @@
+package envelope_test
+
+import (
+	"slices"
+	"testing"
+
+	"wherry/api"
+	"wherry/envelope"
+)
+
+func TestValid(t *testing.T) {
+	ab, null := api.Path{Local: "a", Domain: "b"}, api.Path{Null: true}
+	for k, c := range []struct {
+		from api.Path
+		to   []api.Path
+		want bool
+	}{
+		{ab, []api.Path{ab}, true}, {null, []api.Path{ab}, true}, {ab, slices.Repeat([]api.Path{ab}, 8), true},
+		{ab, slices.Repeat([]api.Path{ab}, 9), false}, {ab, nil, false}, {api.Path{}, []api.Path{ab}, false}, {ab, []api.Path{ab, null}, false}, {ab, []api.Path{{}, ab}, false}, {ab, []api.Path{ab, {Local: "a"}}, false},
+	} {
+		if got := envelope.Valid(api.Mail{From: c.from, To: c.to}); got != c.want {
+			t.Error(k, got)
+		}
+	}
+}
