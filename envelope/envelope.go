@@ -1,4 +1,4 @@
-// Package envelope tells which senders and recipients a mail can have.
+// Package envelope tells which senders and recipients a mail can have, and which recipients are where.
 package envelope
 
 import (
@@ -17,4 +17,15 @@ func Valid(m api.Mail) bool {
 		}
 	}
 	return true
+}
+
+// At returns the recipients of m at a domain, in order.
+func At(m api.Mail, domain string) []api.Path {
+	var l []api.Path
+	for _, p := range m.To {
+		if path.At(p, domain) {
+			l = append(l, p)
+		}
+	}
+	return l
 }

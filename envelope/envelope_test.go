@@ -23,3 +23,14 @@ func TestValid(t *testing.T) {
 		}
 	}
 }
+
+func TestAt(t *testing.T) {
+	box := func(local, domain string) api.Path { return api.Path{Local: local, Domain: domain} }
+	m := api.Mail{To: []api.Path{box("a", "b"), box("c", "d"), box("e", "B"), {Null: true}, box("", "b"), box("a", "b")}}
+	if got := envelope.At(m, "b"); !slices.Equal(got, []api.Path{box("a", "b"), box("e", "B"), box("a", "b")}) {
+		t.Error(got)
+	}
+	if got := envelope.At(m, "x"); len(got) != 0 {
+		t.Error(got)
+	}
+}

@@ -4,8 +4,8 @@ import (
 	"wherry/api"
 	"wherry/bundle"
 	"wherry/clone"
+	"wherry/envelope"
 	"wherry/grow"
-	"wherry/path"
 	"wherry/report"
 )
 
@@ -70,18 +70,7 @@ func (s *Site) arrivals(before api.Spool, number int) []api.Event {
 }
 
 // local returns the recipients of a mail at this site.
-func (s *Site) local(m api.Mail) []api.Path { return at(m, s.config.Domains[s.number]) }
+func (s *Site) local(m api.Mail) []api.Path { return envelope.At(m, s.config.Domains[s.number]) }
 
 // remote returns the recipients of a mail at the other site.
-func (s *Site) remote(m api.Mail) []api.Path { return at(m, s.config.Domains[1-s.number]) }
-
-// at returns the recipients of a mail at a domain.
-func at(m api.Mail, domain string) []api.Path {
-	var l []api.Path
-	for _, p := range m.To {
-		if path.At(p, domain) {
-			l = append(l, p)
-		}
-	}
-	return l
-}
+func (s *Site) remote(m api.Mail) []api.Path { return envelope.At(m, s.config.Domains[1-s.number]) }
