@@ -6,7 +6,6 @@ import (
 	"hash/crc32"
 	"math"
 	"math/rand"
-	"reflect"
 	"slices"
 	"strings"
 	"testing"
@@ -260,7 +259,7 @@ func TestReadsOnlyWhatBytesWrites(t *testing.T) {
 				if back, e := bundle.Bytes(got); e != api.OK || string(back) != s {
 					t.Fatalf("%q %q %v", s, back, e)
 				}
-			} else if e != api.ErrForm || !reflect.DeepEqual(got, api.Bundle{}) {
+			} else if e != api.ErrForm || !isZero(got) {
 				t.Fatalf("%q %v %v", s, got, e)
 			}
 		}

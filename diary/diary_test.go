@@ -1,9 +1,9 @@
 package diary_test
 
 import (
+	"fmt"
 	"math"
 	"math/rand"
-	"reflect"
 	"testing"
 
 	"wherry/api"
@@ -42,10 +42,13 @@ func ids(t *testing.T, d *diary.Diary) []int {
 	return r
 }
 
+// show writes a value so that nil and empty slices are alike.
+func show(v any) string { return fmt.Sprintf("%+v", v) }
+
 func want(t *testing.T, name string, got, wanted any) {
 	t.Helper()
-	if !reflect.DeepEqual(got, wanted) {
-		t.Errorf("%s: %v, not %v", name, got, wanted)
+	if show(got) != show(wanted) {
+		t.Errorf("%s: %v, not %v", name, show(got), show(wanted))
 	}
 }
 
@@ -385,23 +388,11 @@ func TestLikeAModel(t *testing.T) {
 			if got != wanted || d.Off() != m.off || d.Life() != m.life || d.Len() != len(m.recs) || d.Safe() != m.safe() || d.Used() != m.used() || d.Kept() != m.kept {
 				t.Fatal(k, got, wanted, d.Off(), d.Life(), d.Len(), d.Safe(), d.Used(), d.Kept(), m)
 			}
-			if l, e := d.Read(); !m.off && (e != api.OK || len(l) != len(m.recs) || len(l) > 0 && !reflect.DeepEqual(l, normal(m.recs))) {
+			if l, e := d.Read(); !m.off && (e != api.OK || show(l) != show(m.recs)) {
 				t.Fatal(k, l, e)
 			}
 		}
 	}
-}
-
-// normal gives records with nil for every empty slice, as reflect.DeepEqual tells them apart.
-func normal(l []api.Rec) []api.Rec {
-	var r []api.Rec
-	for _, x := range l {
-		if len(x.Data) == 0 {
-			x.Data = nil
-		}
-		r = append(r, x)
-	}
-	return r
 }
 
 // TestOwnMemory changes what goes in and what comes out.
@@ -450,7 +441,7 @@ func TestSyncedRecordsStay(t *testing.T) {
 		d.Crash(0)
 		d.Start()
 		l, e := d.Read()
-		if e != api.OK || !reflect.DeepEqual(l, all) {
+		if e != api.OK || show(l) != show(all) {
 			t.Fatal(i, l, e)
 		}
 	}

@@ -233,7 +233,7 @@ func TestHearFull(t *testing.T) {
 	}
 }
 
-// TestHearDoneLater has a bundle for whose last record there is room only later, when a frame of another bundle comes.
+// TestHearDoneLater has a bundle for whose last record there is room only later, when one of its frames comes again.
 func TestHearDoneLater(t *testing.T) {
 	data := dataOf(t, 1, 7, packed(threePieces, near))
 	conf := config()
@@ -253,8 +253,8 @@ func TestHearDoneLater(t *testing.T) {
 	l := recs(t, d)
 	// The pieces make room as one.
 	d.Renew(append(l[:1:1], l[3]))
-	frames, events = hear(t, s, hello(6, []byte("x")))
-	same(t, "frames", frames, []api.Frame{done(6), done(7)})
+	frames, events = hear(t, s, chunks[0])
+	same(t, "frames", frames, []api.Frame{done(7)})
 	same(t, "events", events, []api.Event{handed(0, fx, near, threePieces)})
 	same(t, "done", s.Spool().Done, []int{6, 7})
 }

@@ -274,11 +274,6 @@ func TestDown(t *testing.T) {
 	if !s.Down() || start(t, 0, config(), d).Down() {
 		t.Error("down and up")
 	}
-	// A site that New did not make.
-	var none site.Site
-	if _, _, e := none.Feed(0, nil); e != api.ErrOff || !none.Down() {
-		t.Error(e)
-	}
 }
 
 func TestHang(t *testing.T) {

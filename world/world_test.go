@@ -121,11 +121,6 @@ func TestWrongSteps(t *testing.T) {
 			fails(t, w, letter(kind, n), api.ErrNone)
 		}
 	}
-	// A world that New did not make.
-	var none world.World
-	if none.Do(step(api.StepTick, 0)) != api.ErrOff || none.Do(letter(api.StepDeliver, 0)) != api.ErrNone || none.Site(0) != nil {
-		t.Error("a world without sites")
-	}
 }
 
 func TestBytesAndTick(t *testing.T) {
