@@ -72,7 +72,7 @@ func TestCheckAndBytes(t *testing.T) {
 
 func TestRead(t *testing.T) {
 	for _, s := range []string{
-		"", "250 ok", "250 ok\r", "250 ok\n", "\r\n", "250\r\n", "25 ok\r\n", "2500 ok\r\n", "+50 ok\r\n", "2x0 ok\r\n", "25: ok\r\n", "25/ ok\r\n", "250_ok\r\n", "250ok\r\n", "250-ok\r\n", "250-ok\r\n251 ok\r\n", "250-ok\r\n250\r\n", "250-ok\r\n\r\n250 ok\r\n", "250-ok\r\nx", "199 ok\r\n", "560 ok\r\n", "260 ok\r\n", "000 ok\r\n", "999 ok\r\n",
+		"", "250 ok", "250 ok\r", "250 ok\n", "\r\n", "250\r\n", "25 ok\r\n", "2500 ok\r\n", "+50 ok\r\n", "2x0 ok\r\n", "25: ok\r\n", "24: ok\r\n", "1:0 ok\r\n", "25/ ok\r\n", "250_ok\r\n", "250ok\r\n", "250-ok\r\n", "250-ok\r\n251 ok\r\n", "250-ok\r\n250\r\n", "250-ok\r\n\r\n250 ok\r\n", "250-ok\r\nx", "199 ok\r\n", "560 ok\r\n", "260 ok\r\n", "000 ok\r\n", "999 ok\r\n",
 		" 250 ok\r\n", "250 o\nk\r\n", "250 o\rk\r\n", "250 \x00\r\n", "250-\x7f\r\n250 ok\r\n", "250 " + strings.Repeat("x", 201) + "\r\n", "250-" + strings.Repeat("x", 201) + "\r\n250 ok\r\n", strings.Repeat("250-x\r\n", 20) + "250 x\r\n", strings.Repeat("250-x\r\n", 500), "250 ok\n\r\n",
 	} {
 		if r, n, e := answer.Read([]byte(s)); e != api.ErrBytes || n != 0 || !same(r, api.Reply{}) {

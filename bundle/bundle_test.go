@@ -221,6 +221,24 @@ func TestPack(t *testing.T) {
 	}
 }
 
+// TestRoomIsLeft has a body and recipients with unused capacity, which must stay as it is.
+func TestRoomIsLeft(t *testing.T) {
+	body := append([]byte("x\r\n"), "unused capacity"...)
+	to := []api.Path{box("a", "b"), box("c", "d"), box("e", "f")}
+	mails := []api.Mail{{From: null, To: to[:1], Body: body[:3]}, {From: null, To: to[:2], Body: body[:3], Quiet: true}}
+	before := fmt.Sprint(body, to, mails)
+	b := api.Bundle{Number: 1, Mails: mails[:1]}
+	first, e := bundle.Bytes(b)
+	for i := range first[:cap(first)] {
+		first[:cap(first)][i] = 0
+	}
+	n, e2 := bundle.Pack(mails, 0, 1)
+	second, e3 := bundle.Bytes(b)
+	if e != api.OK || e2 != api.OK || e3 != api.OK || n != 2 || string(second) != slowBytes(b) || fmt.Sprint(body, to, mails) != before {
+		t.Error(fmt.Sprint(body, to, mails), n, string(second))
+	}
+}
+
 // TestInverse is promise P17.2.
 func TestInverse(t *testing.T) {
 	for k, b := range goodBundles(t) {

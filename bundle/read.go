@@ -13,9 +13,9 @@ import (
 
 const numberDigits = 10
 
-// header holds the numbers of the first line.
+// header holds the numbers of the first line, but for the number of mails, which follows from the commands.
 type header struct {
-	origin, number, mails, size, sum int
+	origin, number, size, sum int
 }
 
 // Read returns the bundle whose bytes are t.
@@ -51,7 +51,7 @@ func parseHeader(line string) (header, bool) {
 		}
 		l[i] = n
 	}
-	h := header{l[0], l[1], l[2], l[3], l[4]}
+	h := header{origin: l[0], number: l[1], size: l[3], sum: l[4]}
 	return h, h.origin <= 1
 }
 

@@ -142,6 +142,26 @@ func TestLines(t *testing.T) {
 	}
 }
 
+// TestRoomIsLeft has bodies with unused capacity, which must stay as it is, and changes the results.
+func TestRoomIsLeft(t *testing.T) {
+	for _, s := range []string{"", "a\r\n", ".a\r\nb\r\n", "a\r\n.\r\n"} {
+		room := append([]byte(s), "unused capacity"...)
+		b := room[:len(s)]
+		for _, call := range []func(b []byte) []byte{
+			func(b []byte) []byte { r, _ := dots.Stuff(b); return r },
+			func(b []byte) []byte { r, _, _ := dots.Strip(b); return r },
+		} {
+			got := call(b)
+			for i := range got[:cap(got)] {
+				got[:cap(got)][i] = 'Z'
+			}
+			if string(room) != s+"unused capacity" {
+				t.Errorf("%q became %q", s, room)
+			}
+		}
+	}
+}
+
 // TestInverse is promise P14.2.
 func TestInverse(t *testing.T) {
 	n := 0

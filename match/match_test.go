@@ -172,6 +172,26 @@ func TestCheckAndExpand(t *testing.T) {
 	}
 }
 
+func TestResultsAreNew(t *testing.T) {
+	l := []api.Tok{lit('a'), lit('b'), back(6, 2)}
+	a, _ := match.Expand(l)
+	b, _ := match.Expand(l)
+	for i := range a[:cap(a)] {
+		a[:cap(a)][i] = 'Z'
+	}
+	if string(b) != "abababab" {
+		t.Error(string(b))
+	}
+	x, _ := match.Tokens(b)
+	y, _ := match.Tokens(b)
+	for i := range x {
+		x[i] = lit('Z')
+	}
+	if !slices.Equal(y, l) || string(b) != "abababab" {
+		t.Error(y)
+	}
+}
+
 // TestTokensRepresentTheirBytes is promise P4.2.
 func TestTokensRepresentTheirBytes(t *testing.T) {
 	for k, b := range texts() {

@@ -30,6 +30,8 @@ func long(n int) string {
 func domains() []string {
 	l := []string{
 		"", "a", "A", "1", "-", "a-", "-a", "a-b", "a--b", ".", "a.", ".a", "a.b", "a..b", "a.b.c-d.example", "a.-b", "a-.b", "a.b-", "a_b", "a b", "a@b", "<a>", "ä", "a\x00", "a\n", "a\r\n", "1.2.3.4", "[1.2.3.4]",
+		// 255 and 256 bytes, with labels that are not too long.
+		long(192) + strings.Repeat("e", 61) + ".e", long(192) + strings.Repeat("e", 62) + ".e",
 		strings.Repeat("x", 63), strings.Repeat("x", 64), strings.Repeat("x", 63) + ".y", "y." + strings.Repeat("x", 64), long(255), long(254) + "e", long(255) + "e", long(253), long(255)[:191] + "." + strings.Repeat("e", 64),
 	}
 	for c := range 256 {

@@ -318,3 +318,77 @@ func TestShrinkCountsBits(t *testing.T) {
 		t.Error("no such byte string was met")
 	}
 }
+
+// skewed gives bytes of which each value is rarer than the one before it.
+func skewed(seed int64, n int, base float64, of int) []byte {
+	rnd := rand.New(rand.NewSource(seed))
+	b := make([]byte, n)
+	for i := range b {
+		x := int(rnd.ExpFloat64() / math.Log(base))
+		if x >= of {
+			x = rnd.Intn(of)
+		}
+		b[i] = byte(x * 7)
+	}
+	return b
+}
+
+// distant gives bytes whose matches have distance symbols as often as Fibonacci's numbers say, which makes the longest codes.
+func distant(seed int64) []byte {
+	rnd := rand.New(rand.NewSource(seed))
+	b := make([]byte, 1100)
+	rnd.Read(b)
+	often := []int{1, 1, 2, 3, 5, 8, 13, 21, 34, 55, 89, 144, 235, 382}
+	// The far distances come last, when there is something at them.
+	for k, n := range []int{8, 9, 10, 11, 12, 13, 14, 15, 16, 17, 18, 19, 20, 21} {
+		least, more, _ := sym.DistOf(n)
+		for range often[k] {
+			for range 100000 {
+				at := len(b) - least - rnd.Intn(1<<more)
+				longer := append(slices.Clone(b), b[at:at+3]...)
+				// One more byte tells that the match before does not go on.
+				if length, dist := match.Best(longer, len(b)); length == 3 && dist == len(b)-at && b[at-1] != b[len(b)-1] && b[len(b)-3] != b[at] {
+					b = longer
+					break
+				}
+			}
+		}
+	}
+	return b
+}
+
+// TestLongCodes has byte strings for which the code lengths, and the code for them, are as long as can be.
+func TestLongCodes(t *testing.T) {
+	b := distant(30)
+	l, _ := match.Tokens(b)
+	_, weights, _ := sym.Weights(l)
+	lengths, _ := tree.Lengths(weights, 15)
+	if slices.Max(lengths) < 13 {
+		t.Fatal("the codes are too short", weights, lengths, len(b))
+	}
+	texts := [][]byte{b}
+	for seed := range int64(40) {
+		texts = append(texts, skewed(seed, 1558, 1.052, 176))
+	}
+	deep := 0
+	for k, b := range texts {
+		l, _ := match.Tokens(b)
+		litWeights, distWeights, _ := sym.Weights(l)
+		lits, _ := tree.Lengths(litWeights, 15)
+		dists, _ := tree.Lengths(distWeights, 15)
+		syms, _, _ := slowRow(slices.Concat(cut(lits, 257), cut(dists, 1)))
+		weights := make([]int, 19)
+		for _, s := range syms {
+			weights[s]++
+		}
+		if row, _ := tree.Lengths(weights, 15); slices.Max(row) > 7 {
+			deep++
+		}
+		if got, e := shrink.Dynamic(b); e != api.OK || !bytes.Equal(got, pack(slowDynamic(b))) || !bytes.Equal(inflate(t, got), b) {
+			t.Error(k, e)
+		}
+	}
+	if deep == 0 {
+		t.Error("no code of code lengths is too deep")
+	}
+}

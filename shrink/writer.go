@@ -8,7 +8,7 @@ type writer struct {
 	n int
 }
 
-// put appends the n bits of v, the lowest one first.
+// put appends the n bits of v, which has no more bits, the lowest one first.
 func (w *writer) put(v, n int) {
 	rest := uint32(v)
 	for n > 0 {
@@ -17,8 +17,7 @@ func (w *writer) put(v, n int) {
 			w.b = append(w.b, 0)
 		}
 		part := min(8-used, n)
-		low := rest & (1<<part - 1)
-		w.b[len(w.b)-1] |= byte(low << used)
+		w.b[len(w.b)-1] |= byte(rest << used)
 		rest >>= part
 		w.n += part
 		n -= part

@@ -188,7 +188,20 @@ func TestNewCutsOff(t *testing.T) {
 	same(t, "kept", d.Kept(), 0)
 	same(t, "records", recs(t, d), good)
 	same(t, "safe", d.Safe(), 2)
+	state, _ := spool.Fold(good)
+	same(t, "spool", s.Spool(), state)
 	same(t, "the second call", d.Sync(), api.ErrOff)
+	// The same with records that are all synced.
+	d = log(t, 20000, good[0], api.Rec{}, good[1])
+	d.Trip(1, 9)
+	if s, e := site.New(0, config(), d); s != nil || e != api.ErrOff {
+		t.Error(s, e)
+	}
+	d.Start()
+	s = start(t, 0, config(), d)
+	same(t, "records", recs(t, d), good[:1])
+	state, _ = spool.Fold(good[:1])
+	same(t, "spool", s.Spool(), state)
 }
 
 // TestFound has records whose writing a crash broke off.
@@ -231,6 +244,24 @@ func TestFound(t *testing.T) {
 	d.Crash(1)
 	d.Start()
 	same(t, "found", start(t, 1, config(), d).Found(), []api.Event{handed(1, fx, far, "y\r\n")})
+}
+
+// TestFoundOneAfterTheOther has records whose events depend on the records that were kept before them.
+func TestFoundOneAfterTheOther(t *testing.T) {
+	data := dataOf(t, 1, 7, packed("1\r\n", near))
+	d := log(t, 20000)
+	l := []api.Rec{recMail(1, mail("x\r\n", far), 1), {Kind: api.RecBounce, Id: 1}}
+	for _, f := range chunksOf(7, data) {
+		l = append(l, api.Rec{Kind: api.RecChunk, Number: 7, Offset: f.Offset, Data: f.Data})
+	}
+	for _, r := range append(l, api.Rec{Kind: api.RecDone, Number: 7}) {
+		d.Put(r)
+	}
+	d.Crash(99)
+	d.Start()
+	s := start(t, 0, config(), d)
+	same(t, "found", s.Found(), []api.Event{bounced(t, 0, fx, far), handed(0, fx, near, "1\r\n")})
+	same(t, "done", s.Spool().Done, []int{7})
 }
 
 func TestDown(t *testing.T) {

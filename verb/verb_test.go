@@ -122,7 +122,7 @@ func lines() []line {
 	null := api.Path{Null: true}
 	return []line{
 		good("EHLO a.example", text(api.CmdEhlo, "a.example")), good("helo A.Example", text(api.CmdEhlo, "A.Example")), good("eHlO a", text(api.CmdEhlo, "a")), good("EHLO "+long(255), text(api.CmdEhlo, long(255))),
-		bad(501, "EHLO"), bad(501, "EHLO "), bad(501, "EHLO  a"), bad(501, "EHLO a "), bad(501, "EHLO a b"), bad(501, "EHLO [1.2.3.4]"), bad(501, "HELO -a"), bad(501, "EHLO "+long(255)+"d"), bad(500, "EHLOa"), bad(500, "EHL a"), bad(500, " EHLO a"), bad(500, "HELOO a"),
+		bad(501, "EHLO"), bad(501, "EHLO "), bad(501, "EHLO  a"), bad(501, "EHLO a "), bad(501, "EHLO a b"), bad(501, "EHLO [1.2.3.4]"), bad(501, "HELO -a"), bad(501, "EHLO "+long(255)+"d"), good("EHLO "+long(192)+strings.Repeat("e", 61)+".e", text(api.CmdEhlo, long(192)+strings.Repeat("e", 61)+".e")), bad(501, "EHLO "+long(192)+strings.Repeat("e", 62)+".e"), bad(500, "EHLOa"), bad(500, "EHL a"), bad(500, " EHLO a"), bad(500, "HELOO a"),
 		good("mail from:<> size=5", mail(null, size5)), good("MAIL FROM:<a@b>", mail(ab)), good("MAIL FROM:<a@b> SIZE=5 RET=full", mail(ab, size5, api.Param{Key: "RET", Val: "FULL"})), good("MAIL FROM:<a@b> ret=Hdrs Size=5", mail(ab, api.Param{Key: "RET", Val: "HDRS"}, size5)),
 		good("MAIL FROM:<a@b> SIZE=0", mail(ab, api.Param{Key: "SIZE", Val: "0"})), good("MAIL FROM:<a@b> SIZE=999999999", mail(ab, api.Param{Key: "SIZE", Val: "999999999"})), good("MAIL FROM:<A@B>", mail(box("A", "B"))),
 		good("MAIL FROM:<"+strings.Repeat("l", 64)+"@"+long(255)+">", mail(box(strings.Repeat("l", 64), long(255)))), bad(501, "MAIL FROM:<"+strings.Repeat("l", 65)+"@b>"), bad(501, "MAIL FROM:<l@"+long(255)+"d>"),
