@@ -238,6 +238,9 @@ func TestBadBodies(t *testing.T) {
 		if k.g.From != (api.Path{}) || len(k.g.To) != 0 || k.g.Quiet || len(k.g.Buf) != 0 {
 			t.Error(show(k.g))
 		}
+		if strings.HasSuffix(c.codes, "221") != (k.g.Phase == api.PhaseOver) || k.g.Phase != api.PhaseOver && k.g.Phase != api.PhaseReady {
+			t.Errorf("%.20q: %v", c.body, show(k.g))
+		}
 	}
 }
 
@@ -374,6 +377,13 @@ func TestAuthAndRelease(t *testing.T) {
 	ask(k, false)
 	k.say("ATRN NORTH.example", "250")
 	ask(k, true)
+	// A line that is too long is no answer to the challenge yet.
+	k = begin(t, challenge)
+	k.say("EHLO me", "250", "AUTH CRAM-MD5", "334")
+	if got := k.feed(strings.Repeat("x", 513)); got != "500" || k.g.Phase != api.PhaseAuth || len(k.g.Buf) != 0 {
+		t.Error(got, show(k.g))
+	}
+	k.say(answer, "235", "RSET", "250", "ATRN", "250")
 	k = begin(t, "")
 	k.say("EHLO me", "250", "AUTH CRAM-MD5", "334", cram.Answer("user", "secret", ""), "235")
 	k = begin(t, strings.Repeat("~", 100))

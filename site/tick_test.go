@@ -79,6 +79,22 @@ func TestTickErrors(t *testing.T) {
 	}
 }
 
+// TestTickErrorChangesNothing has a tick that would tidy, give up a mail, and pack another one.
+func TestTickErrorChangesNothing(t *testing.T) {
+	c := config()
+	c.Log = 600
+	later := mail("", far)
+	later.At = 1 << 40
+	d := log(t, c.Log, recMail(1, mail("", far), 1), recMail(2, later, 1))
+	s := start(t, 0, c, d)
+	d.Trip(1, 0)
+	if f, v, e := s.Tick(1<<40 + 1); len(f) != 0 || len(v) != 0 || e != api.ErrArg {
+		t.Error(f, v, e)
+	}
+	same(t, "records", kinds(t, d), "mail mail ")
+	same(t, "the first call", d.Sync(), api.ErrOff)
+}
+
 func TestTickPacks(t *testing.T) {
 	var l []api.Rec
 	for i := range 7 {
